@@ -1,0 +1,73 @@
+"""0.1 to 0.4 for all functions together: names of arguments, the same answer again, told things handed in again."""
+
+import inspect
+import unittest
+
+from tests.samples import WRONG_RINGS, Checks
+from twosetsums import moves, sets, sums
+from twosetsums.errors import NoNumber, NoRing, NoSet, RingError
+
+# Each function of the interface: ordinary arguments by name, in their order, and what it tells of them.
+CALLS = [
+    (sets.is_set, {"ring": 7, "thing": (1, 2, 4)}, True),
+    (sets.set_of, {"ring": 7, "things": [9, -3, 2, 15]}, (1, 2, 4)),
+    (sets.others, {"ring": 7, "some": (1, 2, 4)}, (0, 3, 5, 6)),
+    (moves.moved, {"ring": 7, "some": (1, 2, 4), "number": -2}, (0, 2, 6)),
+    (moves.stretched, {"ring": 7, "some": (1, 2, 4), "number": 3}, (3, 5, 6)),
+    (moves.least_moved, {"ring": 7, "some": (1, 2, 4)}, (0, 1, 3)),
+    (moves.move_to, {"ring": 7, "one": (1, 2, 4), "other": (0, 2, 6)}, 5),
+    (sums.sums, {"ring": 7, "one": (1, 2, 4), "other": (0, 1)}, (1, 2, 3, 4, 5)),
+    (sums.differences, {"ring": 7, "one": (1, 2, 4), "other": (0, 1)}, (0, 1, 2, 3, 4)),
+    (sums.unlike, {"ring": 7, "some": (1, 2, 4)}, (3, 5, 6)),
+    (sums.lacking, {"ring": 7, "one": (1, 2, 4), "other": (0, 1)}, (0, 6)),
+]
+
+WRONG = {"things": (0,), "some": [0], "one": (1, 0), "other": (True,), "number": None}
+REFUSAL = {"things": NoSet, "some": NoSet, "one": NoSet, "other": NoSet, "number": NoNumber}
+
+
+class CallsTest(Checks, unittest.TestCase):
+
+    def test_arguments_have_the_names_and_places_of_the_interface(self):
+        for call, named, wanted in CALLS:
+            self.assertEqual(list(inspect.signature(call).parameters), list(named), call.__name__)
+
+    def test_by_place_by_name_and_mixed(self):
+        for call, named, wanted in CALLS:
+            names = list(named)
+            for placed in range(len(names) + 1):
+                args = [named[name] for name in names[:placed]]
+                rest = {name: named[name] for name in reversed(names[placed:])}
+                self.told(wanted, call, *args, **rest)
+
+    def test_the_first_wrong_one_from_the_left_is_refused(self):
+        for call, named, wanted in CALLS:
+            names = [name for name in named if name in WRONG]
+            for first in range(len(names)):
+                for last in range(first, len(names)):
+                    wrong = {name: WRONG[name] for name in names[first:last + 1]}
+                    self.refused(REFUSAL[names[first]], call, **{**named, **wrong})
+                    for ring in WRONG_RINGS:
+                        self.refused(NoRing, call, **{**named, **wrong, "ring": ring})
+
+    def test_refusals_are_caught_as_ring_errors_and_value_errors(self):
+        for call, named, wanted in CALLS:
+            for kind in (RingError, ValueError):
+                with self.assertRaises(kind):
+                    call(**{**named, "ring": None})
+
+    def test_the_same_question_has_the_same_answer_whatever_was_asked_in_between(self):
+        for call, named, wanted in CALLS:
+            for between, its_named, its_wanted in CALLS:
+                self.told(its_wanted, between, **its_named)
+                self.refused(NoRing, between, **{**its_named, "ring": 25})
+                self.told(wanted, call, **named)
+
+    def test_what_was_told_may_be_handed_in_again(self):
+        told = sets.set_of(24, [-1, 40, 5])
+        for step in range(1, 24):
+            self.assertTrue(sets.is_set(24, told))
+            told = moves.least_moved(24, moves.moved(24, moves.stretched(24, sets.others(24, told), 5), step))
+            told = sums.lacking(24, told, sums.unlike(24, sums.differences(24, told, (0, step))[:3]))
+        self.assertTrue(sets.is_set(24, told))
+        self.told(0, moves.move_to, 24, told, told)

@@ -1,0 +1,1 @@
+"""Twosetsums: sums of two sets round a ring."""
