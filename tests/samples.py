@@ -36,6 +36,11 @@ WRONG_LISTS = [
 ]
 
 
+def wrong_numbers(ring):
+    """What is no number of the ring."""
+    return [-1, ring, ring + 1, -ring, FAR, -FAR, *WRONG_WHOLES]
+
+
 def all_sets(ring):
     """All sets of the ring, those of fewer numbers first."""
     return [some for many in range(ring + 1) for some in combinations(range(ring), many)]
@@ -46,6 +51,25 @@ def some_sets(ring):
     told = [(), tuple(range(ring)), (0,), (ring - 1,), (0, ring - 1), (0, 1), tuple(range(0, ring, 2)),
             tuple(range(1, ring, 3)), tuple(sorted({number * number % ring for number in range(ring)}))]
     return sorted(set(told))
+
+
+def parting(ring):
+    """The numbers from 2 to the ring that go into it."""
+    return [h for h in range(2, ring + 1) if ring // h * h == ring]
+
+
+def parted_sets(ring):
+    """Sets of whole parts of a ring and a little besides, or without a little."""
+    told = []
+    for h in parting(ring)[:-1]:
+        part = set(range(h - 1, ring, h))
+        told += [part, part | {0}, part - {ring - 1}, set(range(ring)) - part - {0}, part | {0, h % (h - 1 or 1)}]
+    return sorted({tuple(sorted(some)) for some in told})
+
+
+def many_sets(ring):
+    """some_sets and parted_sets together."""
+    return sorted({*some_sets(ring), *parted_sets(ring)})
 
 
 class Checks:
@@ -61,6 +85,17 @@ class Checks:
             self.assertEqual(repr((args, named)), repr(before))
             return error
         self.fail(f"{call.__name__} {args} {named} told {told!r}")
+
+    def new_list(self, call, *args):
+        """The call tells a list that is the asker's own: what is done to it changes no later answer."""
+        wanted = copy.deepcopy(call(*args))
+        first, second = call(*args), call(*args)
+        self.assertIs(type(first), list)
+        self.assertIsNot(first, second)
+        first.clear()
+        first.append("else")
+        self.assertEqual(second, wanted)
+        self.assertEqual(call(*args), wanted)
 
     def told(self, wanted, call, *args, **named):
         """The call tells just this, of the same kind, twice, and what was handed in stays as it was."""

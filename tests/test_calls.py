@@ -4,8 +4,8 @@ import inspect
 import unittest
 
 from tests.samples import WRONG_RINGS, Checks
-from twosetsums import moves, sets, sums
-from twosetsums.errors import NoNumber, NoRing, NoSet, RingError
+from twosetsums import keeping, moves, nearness, sets, sums, trading, ways
+from twosetsums.errors import NoNumber, NoRing, NoSet, NoTrades, RingError
 
 # Each function of the interface: ordinary arguments by name, in their order, and what it tells of them.
 CALLS = [
@@ -20,10 +20,26 @@ CALLS = [
     (sums.differences, {"ring": 7, "one": (1, 2, 4), "other": (0, 1)}, (0, 1, 2, 3, 4)),
     (sums.unlike, {"ring": 7, "some": (1, 2, 4)}, (3, 5, 6)),
     (sums.lacking, {"ring": 7, "one": (1, 2, 4), "other": (0, 1)}, (0, 6)),
+    (ways.ways, {"ring": 7, "one": (1, 2, 4), "other": (0, 1)}, [0, 1, 2, 1, 1, 1, 0]),
+    (ways.often, {"ring": 7, "one": (1, 2, 4), "other": (0, 1), "t": 2}, (2,)),
+    (ways.first_pair, {"ring": 7, "one": (1, 2, 4), "other": (0, 1), "c": 2}, (1, 1)),
+    (keeping.keepers, {"ring": 6, "some": (0, 1, 3, 4)}, (0, 3)),
+    (keeping.whole_parts, {"ring": 6, "some": (0, 1, 2, 4), "h": 2}, (0,)),
+    (keeping.broken_parts, {"ring": 6, "some": (0, 1, 2, 4), "h": 2}, (1,)),
+    (keeping.rests_by, {"ring": 6, "some": (0, 1, 2, 4), "h": 2}, (0, 1)),
+    (nearness.nearly, {"ring": 6, "some": (0, 1, 2, 4)}, [2]),
+    (nearness.split, {"ring": 6, "some": (0, 1, 2, 4), "h": 2}, ((0, 2, 4), (1,))),
+    (trading.trade, {"ring": 7, "one": (1, 2, 4), "other": (0, 1), "e": 2}, ((1, 2, 3, 4), (0,))),
+    (trading.trades_hold, {"ring": 7, "one": (1, 2, 4), "other": (0, 1), "thing": (2, 4)}, True),
+    (trading.ended, {"ring": 7, "one": (1, 2, 4), "other": (0, 1), "row": (2, 4)}, ((1, 2, 3, 4), (0,))),
+    (trading.is_stuck, {"ring": 7, "one": (1, 2, 4), "other": (0, 1)}, False),
+    (trading.trades_of, {"ring": 7, "one": (1, 2, 4), "other": (0, 1)}, (0,)),
 ]
 
-WRONG = {"things": (0,), "some": [0], "one": (1, 0), "other": (True,), "number": None}
-REFUSAL = {"things": NoSet, "some": NoSet, "one": NoSet, "other": NoSet, "number": NoNumber}
+WRONG = {"things": (0,), "some": [0], "one": (1, 0), "other": (True,), "number": None, "t": 0, "c": -1, "h": True,
+         "e": "1", "row": [2]}
+REFUSAL = {"things": NoSet, "some": NoSet, "one": NoSet, "other": NoSet, "number": NoNumber, "t": NoNumber,
+           "c": NoNumber, "h": NoNumber, "e": NoNumber, "row": NoTrades}
 
 
 class CallsTest(Checks, unittest.TestCase):
@@ -62,6 +78,11 @@ class CallsTest(Checks, unittest.TestCase):
                 self.told(its_wanted, between, **its_named)
                 self.refused(NoRing, between, **{**its_named, "ring": 25})
                 self.told(wanted, call, **named)
+
+    def test_lists_told_are_new_and_the_askers_own(self):
+        for call, named, wanted in CALLS:
+            if isinstance(wanted, list):
+                self.new_list(call, *named.values())
 
     def test_what_was_told_may_be_handed_in_again(self):
         told = sets.set_of(24, [-1, 40, 5])

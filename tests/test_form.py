@@ -21,6 +21,10 @@ BARRED_NAMES = set("""register mro elements open input version_info with_traceba
     builtins compile copyright credits delattr dir eval exec exit gc getattr globals hasattr help id importlib
     license locals methodcaller os quit setattr super type vars sys""".split())
 
+METHODS = set("""append clear copy count endswith extend find get index insert isalnum isalpha isdigit islower isspace
+    isupper items join keys ljust lower lstrip partition pop remove replace reverse rfind rjust rpartition rsplit
+    rstrip setdefault split splitlines startswith strip update upper values zfill bit_length""".split())
+
 BARRED_NODES = (ast.Global, ast.AsyncFunctionDef, ast.AsyncFor, ast.AsyncWith, ast.Await, ast.Import, ast.Div)
 
 
@@ -94,6 +98,32 @@ class FormTest(unittest.TestCase):
                     self.assertNotIn("%", str(node.value), path)
                 if isinstance(node, ast.Compare) and isinstance(node.ops[0], (ast.Is, ast.IsNot)):
                     self.assertIsInstance(node.comparators[0], ast.Constant, path)
+
+    def test_the_module_level_has_definitions_alone(self):
+        for path, tree in self.trees.items():
+            for node in tree.body:
+                docstring = isinstance(node, ast.Expr) and isinstance(node.value, ast.Constant)
+                allowed = (ast.ImportFrom, ast.FunctionDef, ast.ClassDef, ast.Assign)
+                self.assertTrue(docstring or isinstance(node, allowed), (path, node.lineno))
+            names = [name for node in tree.body for name in names_bound(ast.Module([node], []))
+                     if isinstance(node, (ast.ImportFrom, ast.Assign))]
+            names += [node.name for node in tree.body if isinstance(node, (ast.FunctionDef, ast.ClassDef))]
+            self.assertEqual(len(names), len(set(names)), path)
+
+    def test_local_names_are_no_names_of_imports_or_classes(self):
+        for path, tree in self.trees.items():
+            barred = {alias.name for node in imports_of(tree) for alias in node.names}
+            barred |= {node.name for node in tree.body if isinstance(node, ast.ClassDef)}
+            for node in ast.walk(tree):
+                if isinstance(node, ast.FunctionDef):
+                    self.assertEqual(set(names_bound(node)) & barred, set(), (path, node.name))
+
+    def test_methods_of_builtin_values(self):
+        for path, tree in self.trees.items():
+            for node in ast.walk(tree):
+                if isinstance(node, ast.Call) and isinstance(node.func, ast.Attribute):
+                    self.assertIn(node.func.attr, METHODS, (path, node.lineno))
+                    self.assertEqual(node.keywords, [], (path, node.lineno))
 
     def test_imports_name_the_file_that_defines_the_name(self):
         for path, tree in self.trees.items():

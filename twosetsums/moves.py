@@ -1,7 +1,7 @@
 """Sets moved and stretched round a ring, and sets alike by moving."""
 
 from twosetsums.errors import NoNumber
-from twosetsums.sets import check_set, is_whole, set_of_rests
+from twosetsums.sets import check_pair, check_set, is_whole, set_of_rests
 
 
 def check_whole(number):
@@ -32,8 +32,7 @@ def least_moved(ring, some):
 
 def move_to(ring, one, other):
     """The least number from 0 on by which the one set is moved to the other, None where there is none."""
-    check_set(ring, one)
-    check_set(ring, other)
+    check_pair(ring, one, other)
     for number in range(ring):
         if moved(ring, one, number) == other:
             return number

@@ -1,6 +1,6 @@
-"""Sets on a ring: rising tuples of its numbers, and the looks that every module takes at a ring and at a set."""
+"""Sets on a ring: rising tuples of its numbers, and the looks that every module takes at what is handed in."""
 
-from twosetsums.errors import NoRing, NoSet
+from twosetsums.errors import Apart, NoNumber, NoRing, NoSet
 
 LEAST_RING = 2
 GREATEST_RING = 24
@@ -12,9 +12,20 @@ def is_whole(thing):
     return isinstance(thing, int) and not isinstance(thing, bool)
 
 
+def is_within(thing, least, greatest):
+    """Whether a thing is a whole number from the least to the greatest."""
+    return is_whole(thing) and least <= thing <= greatest
+
+
+def check_within(number, least, greatest):
+    """Refuse what is no whole number from the least to the greatest."""
+    if not is_within(number, least, greatest):
+        raise NoNumber(f"a whole number from {least} to {greatest} is due")
+
+
 def check_ring(ring):
     """Refuse what is no ring."""
-    if not is_whole(ring) or ring < LEAST_RING or ring > GREATEST_RING:
+    if not is_within(ring, LEAST_RING, GREATEST_RING):
         raise NoRing("a ring is a whole number from 2 to 24")
 
 
@@ -22,6 +33,19 @@ def check_set(ring, some):
     """Refuse what is no ring, then what is no set of it."""
     if not is_set(ring, some):
         raise NoSet("a set is a rising tuple of numbers of the ring")
+
+
+def check_pair(ring, one, other):
+    """Refuse what is no ring, then what is no set of it, the one ahead of the other."""
+    check_set(ring, one)
+    check_set(ring, other)
+
+
+def check_pair_not_empty(ring, one, other):
+    """Refuse as check_pair does, then a pair of sets one of which is ()."""
+    check_pair(ring, one, other)
+    if one == () or other == ():
+        raise Apart("a set with numbers is due")
 
 
 def set_of_rests(ring, numbers):

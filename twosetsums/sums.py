@@ -1,19 +1,17 @@
 """Sums and differences of two sets on a ring, and the numbers that are no sums."""
 
-from twosetsums.sets import check_set, others, set_of_rests
+from twosetsums.sets import check_pair, check_set, others, set_of_rests
 
 
 def sums(ring, one, other):
     """The set of the rests of all sums of a number of the one and one of the other."""
-    check_set(ring, one)
-    check_set(ring, other)
+    check_pair(ring, one, other)
     return set_of_rests(ring, [a + b for a in one for b in other])
 
 
 def differences(ring, one, other):
     """The set of the rests of all numbers of the one less one of the other."""
-    check_set(ring, one)
-    check_set(ring, other)
+    check_pair(ring, one, other)
     return set_of_rests(ring, [a - b for a in one for b in other])
 
 
