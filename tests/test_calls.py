@@ -4,7 +4,7 @@ import inspect
 import unittest
 
 from tests.samples import WRONG_RINGS, Checks
-from twosetsums import keeping, moves, nearness, sets, sums, trading, ways
+from twosetsums import grown, keeping, kinds, moves, nearness, runs, sets, steps, sums, trading, ways
 from twosetsums.errors import NoNumber, NoRing, NoSet, NoTrades, RingError
 
 # Each function of the interface: ordinary arguments by name, in their order, and what it tells of them.
@@ -34,12 +34,26 @@ CALLS = [
     (trading.ended, {"ring": 7, "one": (1, 2, 4), "other": (0, 1), "row": (2, 4)}, ((1, 2, 3, 4), (0,))),
     (trading.is_stuck, {"ring": 7, "one": (1, 2, 4), "other": (0, 1)}, False),
     (trading.trades_of, {"ring": 7, "one": (1, 2, 4), "other": (0, 1)}, (0,)),
+    (steps.steps_of, {"ring": 7, "some": (0, 2, 5)}, (2,)),
+    (kinds.kind_of, {"prime": 7, "one": (0, 2, 4), "other": (1, 3)}, ("step", 2)),
+    (kinds.kind_holds, {"prime": 7, "one": (0, 2, 4), "other": (1, 3), "thing": ("step", 2)}, True),
+    (runs.runs_by, {"ring": 7, "some": (0, 1, 4, 6), "d": 1}, [(4, 1), (6, 3)]),
+    (runs.longest_run, {"ring": 7, "some": (0, 1, 4, 6), "d": 1}, 3),
+    (runs.gaps, {"ring": 7, "some": (0, 1, 4, 6), "d": 1}, [1, 2]),
+    (runs.row_of, {"ring": 7, "first": 5, "d": 2, "many": 3}, (0, 2, 5)),
+    (grown.grown_many, {"ring": 7, "some": (0, 1, 4), "d": 1, "k": 2}, 5),
 ]
 
 WRONG = {"things": (0,), "some": [0], "one": (1, 0), "other": (True,), "number": None, "t": 0, "c": -1, "h": True,
-         "e": "1", "row": [2]}
+         "e": "1", "row": [2], "d": 0, "first": -1, "many": 8, "k": 0}
 REFUSAL = {"things": NoSet, "some": NoSet, "one": NoSet, "other": NoSet, "number": NoNumber, "t": NoNumber,
-           "c": NoNumber, "h": NoNumber, "e": NoNumber, "row": NoTrades}
+           "c": NoNumber, "h": NoNumber, "e": NoNumber, "row": NoTrades, "d": NoNumber, "first": NoNumber,
+           "many": NoNumber, "k": NoNumber}
+
+
+def with_ring(named, ring):
+    """The arguments with another ring, which is called prime in some functions."""
+    return {name: ring if name in ("ring", "prime") else named[name] for name in named}
 
 
 class CallsTest(Checks, unittest.TestCase):
@@ -64,19 +78,19 @@ class CallsTest(Checks, unittest.TestCase):
                     wrong = {name: WRONG[name] for name in names[first:last + 1]}
                     self.refused(REFUSAL[names[first]], call, **{**named, **wrong})
                     for ring in WRONG_RINGS:
-                        self.refused(NoRing, call, **{**named, **wrong, "ring": ring})
+                        self.refused(NoRing, call, **with_ring({**named, **wrong}, ring))
 
     def test_refusals_are_caught_as_ring_errors_and_value_errors(self):
         for call, named, wanted in CALLS:
             for kind in (RingError, ValueError):
                 with self.assertRaises(kind):
-                    call(**{**named, "ring": None})
+                    call(**with_ring(named, None))
 
     def test_the_same_question_has_the_same_answer_whatever_was_asked_in_between(self):
         for call, named, wanted in CALLS:
             for between, its_named, its_wanted in CALLS:
                 self.told(its_wanted, between, **its_named)
-                self.refused(NoRing, between, **{**its_named, "ring": 25})
+                self.refused(NoRing, between, **with_ring(its_named, 25))
                 self.told(wanted, call, **named)
 
     def test_lists_told_are_new_and_the_askers_own(self):
