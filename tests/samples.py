@@ -63,7 +63,7 @@ def parted_sets(ring):
     told = []
     for h in parting(ring)[:-1]:
         part = set(range(h - 1, ring, h))
-        told += [part, part | {0}, part - {ring - 1}, set(range(ring)) - part - {0}, part | {0, h % (h - 1 or 1)}]
+        told += [part, part | {0}, part - {ring - 1}, set(range(ring)) - part - {0}, part | {0, 1}]
     return sorted({tuple(sorted(some)) for some in told})
 
 
