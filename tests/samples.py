@@ -1,6 +1,7 @@
 """What several tests hand in: right and wrong rings, sets, whole numbers and lists."""
 
 import copy
+import sys
 from itertools import combinations
 
 FAR = 10 ** 30
@@ -72,6 +73,19 @@ def many_sets(ring):
     return sorted({*some_sets(ring), *parted_sets(ring)})
 
 
+def rows_with_gaps(ring):
+    """Rows by a step round a ring, and the same without one number of theirs."""
+    told = []
+    for d in range(1, min(ring, 6)):
+        row = [(ring - 1 + d * turn) % ring for turn in range(ring // 2 + 1)]
+        told += [row, row[:1] + row[2:]]
+    return sorted({tuple(sorted(set(row))) for row in told})
+
+
+class TooLong(BaseException):
+    """A call takes more steps than it may."""
+
+
 class Checks:
     """What test cases of several files check; stands beside unittest.TestCase."""
 
@@ -105,3 +119,27 @@ class Checks:
             # repr tells 1 from True, and a list from a tuple.
             self.assertEqual(repr(found), repr(wanted), (call.__name__, args, named, turn))
         self.assertEqual(repr((args, named)), repr(before))
+
+    def at_once(self, call, *args, most=10 ** 6):
+        """What the call tells; it fails where it takes more steps of the interpreter than it may."""
+        taken = 0
+
+        def count(frame, event, arg):
+            nonlocal taken
+            frame.f_trace_opcodes = True
+            taken += 1
+            if taken > most:
+                raise TooLong
+            return count
+
+        before = sys.gettrace()
+        sys.settrace(count)
+        try:
+            told = call(*args)
+        except TooLong:
+            told = TooLong
+        finally:
+            sys.settrace(before)
+        self.assertIsNot(told, TooLong, (call.__name__, args))
+        self.assertGreater(taken, 10)
+        return told

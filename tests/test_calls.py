@@ -4,8 +4,9 @@ import inspect
 import unittest
 
 from tests.samples import WRONG_RINGS, Checks
-from twosetsums import grown, keeping, kinds, moves, nearness, runs, sets, steps, sums, trading, ways
-from twosetsums.errors import NoNumber, NoRing, NoSet, NoTrades, RingError
+from twosetsums import (filling, folds, grown, keeping, kinds, moves, nearness, runs, sets, several, steps, sums,
+                        trading, trios, ways)
+from twosetsums.errors import NoList, NoNumber, NoRing, NoSet, NoTrades, RingError
 
 # Each function of the interface: ordinary arguments by name, in their order, and what it tells of them.
 CALLS = [
@@ -42,13 +43,29 @@ CALLS = [
     (runs.gaps, {"ring": 7, "some": (0, 1, 4, 6), "d": 1}, [1, 2]),
     (runs.row_of, {"ring": 7, "first": 5, "d": 2, "many": 3}, (0, 2, 5)),
     (grown.grown_many, {"ring": 7, "some": (0, 1, 4), "d": 1, "k": 2}, 5),
+    (trios.is_free, {"ring": 6, "one": (0, 1), "other": (1, 2), "third": (0, 2)}, True),
+    (trios.third_for, {"ring": 6, "one": (0, 1), "other": (1, 2)}, (0, 1, 2)),
+    (filling.filled, {"ring": 5, "one": (0, 1), "other": (0, 2)}, ((0, 1, 3), (0, 2))),
+    (filling.is_filled, {"ring": 5, "one": (0, 1), "other": (0, 2)}, False),
+    (several.sum_all, {"ring": 7, "things": [(0, 1), (0, 2), (3,)]}, (3, 4, 5, 6)),
+    (several.ends, {"ring": 7, "things": [(0, 1), (0, 2), (3,)]}, [2, 4, 4]),
+    (several.choice, {"ring": 7, "things": [(0, 1), (0, 2), (3,)], "c": 5}, (0, 2, 3)),
+    (folds.fold, {"ring": 7, "some": (1, 2), "k": 2}, (2, 3, 4)),
+    (folds.growth, {"ring": 7, "some": (0, 1, 3)}, [3, 6, 7]),
+    (folds.order, {"ring": 7, "some": (0, 1, 3)}, 3),
+    (folds.made_by, {"ring": 6, "some": (4,)}, (0, 2, 4)),
 ]
 
-WRONG = {"things": (0,), "some": [0], "one": (1, 0), "other": (True,), "number": None, "t": 0, "c": -1, "h": True,
-         "e": "1", "row": [2], "d": 0, "first": -1, "many": 8, "k": 0}
-REFUSAL = {"things": NoSet, "some": NoSet, "one": NoSet, "other": NoSet, "number": NoNumber, "t": NoNumber,
-           "c": NoNumber, "h": NoNumber, "e": NoNumber, "row": NoTrades, "d": NoNumber, "first": NoNumber,
-           "many": NoNumber, "k": NoNumber}
+WRONG = {"things": (0,), "some": [0], "one": (1, 0), "other": (True,), "third": None, "number": None, "t": 0,
+         "c": -1, "h": True, "e": "1", "row": [2], "d": 0, "first": -1, "many": 8, "k": -1}
+REFUSAL = {"some": NoSet, "one": NoSet, "other": NoSet, "third": NoSet, "row": NoTrades}
+
+
+def refusal(call, name):
+    """The class with which the function refuses a wrong argument of this name."""
+    if name == "things":
+        return NoSet if call == sets.set_of else NoList
+    return REFUSAL.get(name, NoNumber)
 
 
 def with_ring(named, ring):
@@ -76,7 +93,7 @@ class CallsTest(Checks, unittest.TestCase):
             for first in range(len(names)):
                 for last in range(first, len(names)):
                     wrong = {name: WRONG[name] for name in names[first:last + 1]}
-                    self.refused(REFUSAL[names[first]], call, **{**named, **wrong})
+                    self.refused(refusal(call, names[first]), call, **{**named, **wrong})
                     for ring in WRONG_RINGS:
                         self.refused(NoRing, call, **with_ring({**named, **wrong}, ring))
 
