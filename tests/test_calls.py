@@ -4,9 +4,9 @@ import inspect
 import unittest
 
 from tests.samples import WRONG_RINGS, Checks
-from twosetsums import (filling, folds, grown, keeping, kinds, moves, nearness, runs, sets, several, steps, sums,
-                        trading, trios, ways)
-from twosetsums.errors import NoList, NoNumber, NoRing, NoSet, NoTrades, RingError
+from twosetsums import (filling, folds, grown, keeping, kinds, moves, nearness, numbered, runs, sets, several, steps,
+                        sums, tables, texts, trading, trios, ways)
+from twosetsums.errors import NoList, NoNumber, NoRing, NoSet, NoText, NoTrades, RingError
 
 # Each function of the interface: ordinary arguments by name, in their order, and what it tells of them.
 CALLS = [
@@ -54,11 +54,22 @@ CALLS = [
     (folds.growth, {"ring": 7, "some": (0, 1, 3)}, [3, 6, 7]),
     (folds.order, {"ring": 7, "some": (0, 1, 3)}, 3),
     (folds.made_by, {"ring": 6, "some": (4,)}, (0, 2, 4)),
+    (numbered.sets_many, {"ring": 7, "a": 3}, 35),
+    (numbered.nth_set, {"ring": 7, "a": 3, "number": 15}, (1, 2, 3)),
+    (numbered.number_of, {"ring": 7, "some": (1, 2, 3)}, 15),
+    (tables.table, {"ring": 4, "a": 2, "b": 2}, [0, 0, 4, 16, 16]),
+    (tables.least_many, {"ring": 7, "a": 2, "b": 3}, 4),
+    (tables.first_few, {"ring": 8, "a": 2, "b": 4}, ((0, 2), (0, 2, 4, 6))),
+    (tables.kinds_many, {"ring": 6, "a": 2}, 3),
+    (tables.kinds, {"ring": 6, "a": 2}, [(0, 1), (0, 2), (0, 3)]),
+    (texts.set_shown, {"ring": 12, "some": (0, 3, 11)}, "0 3 11"),
+    (texts.set_read, {"ring": 12, "text": "0 3 11"}, (0, 3, 11)),
 ]
 
 WRONG = {"things": (0,), "some": [0], "one": (1, 0), "other": (True,), "third": None, "number": None, "t": 0,
-         "c": -1, "h": True, "e": "1", "row": [2], "d": 0, "first": -1, "many": 8, "k": -1}
-REFUSAL = {"some": NoSet, "one": NoSet, "other": NoSet, "third": NoSet, "row": NoTrades}
+         "c": -1, "h": True, "e": "1", "row": [2], "d": 0, "first": -1, "many": 8, "k": -1,
+         "a": -1, "b": 0, "text": None}
+REFUSAL = {"some": NoSet, "one": NoSet, "other": NoSet, "third": NoSet, "row": NoTrades, "text": NoText}
 
 
 def refusal(call, name):
@@ -123,3 +134,19 @@ class CallsTest(Checks, unittest.TestCase):
             told = sums.lacking(24, told, sums.unlike(24, sums.differences(24, told, (0, step))[:3]))
         self.assertTrue(sets.is_set(24, told))
         self.told(0, moves.move_to, 24, told, told)
+
+    def test_what_one_module_told_is_handed_in_to_another(self):
+        for ring in (7, 11):
+            for number in range(numbered.sets_many(ring, 3)):
+                one = numbered.nth_set(ring, 3, number)
+                other = texts.set_read(ring, texts.set_shown(ring, trios.third_for(ring, one, (0, 1))))
+                row = trading.trades_of(ring, one, other)
+                self.told(True, trading.trades_hold, ring, one, other, row)
+                self.told(True, trading.is_stuck, ring, *trading.ended(ring, one, other, row))
+                self.told(True, kinds.kind_holds, ring, one, other, kinds.kind_of(ring, one, other))
+                self.told(True, filling.is_filled, ring, *filling.filled(ring, one, other))
+                both = several.sum_all(ring, list(filling.filled(ring, one, other)))
+                self.told(both, sums.sums, ring, one, other)
+                self.told(number, numbered.number_of, ring, one)
+        for some in tables.kinds(12, 4):
+            self.told(some, moves.least_moved, 12, some)

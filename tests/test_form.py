@@ -45,6 +45,12 @@ def names_bound(tree):
     return found
 
 
+def methods_of(tree):
+    """The names of all methods of a file's classes, but those with double underscores."""
+    return [node.name for told in tree.body if isinstance(told, ast.ClassDef) for node in told.body
+            if isinstance(node, ast.FunctionDef) and not node.name.startswith("__")]
+
+
 def imports_of(tree):
     return [node for node in ast.walk(tree) if isinstance(node, ast.ImportFrom)]
 
@@ -118,12 +124,36 @@ class FormTest(unittest.TestCase):
                 if isinstance(node, ast.FunctionDef):
                     self.assertEqual(set(names_bound(node)) & barred, set(), (path, node.name))
 
-    def test_methods_of_builtin_values(self):
+    def test_methods_of_builtin_values_and_own_ones(self):
+        own = {name for tree in self.trees.values() for name in methods_of(tree)}
+        self.assertEqual(own & (METHODS | BARRED_NAMES), set())
         for path, tree in self.trees.items():
             for node in ast.walk(tree):
                 if isinstance(node, ast.Call) and isinstance(node.func, ast.Attribute):
-                    self.assertIn(node.func.attr, METHODS, (path, node.lineno))
+                    self.assertIn(node.func.attr, METHODS | own, (path, node.lineno))
                     self.assertEqual(node.keywords, [], (path, node.lineno))
+
+    def test_attributes_are_no_methods_and_are_assigned(self):
+        nodes = [node for tree in self.trees.values() for node in ast.walk(tree)]
+        methods = METHODS | {name for tree in self.trees.values() for name in methods_of(tree)}
+        assigned = {node.attr for node in nodes
+                    if isinstance(node, ast.Attribute) and isinstance(node.ctx, ast.Store)}
+        self.assertEqual(assigned & methods, set())
+        called = [node.func for node in nodes if isinstance(node, ast.Call)]
+        for node in nodes:
+            if isinstance(node, ast.Attribute) and node not in called:
+                self.assertIn(node.attr, assigned, node.lineno)
+
+    def test_values_of_the_module_level_are_read_alone(self):
+        for path, tree in self.trees.items():
+            values = {node.targets[0].id for node in tree.body if isinstance(node, ast.Assign)}
+            for node in ast.walk(tree):
+                if isinstance(node, ast.FunctionDef):
+                    self.assertEqual(set(names_bound(node)) & values, set(), (path, node.name))
+                if isinstance(node, ast.Subscript) and isinstance(node.ctx, (ast.Store, ast.Del)):
+                    self.assertNotIn(getattr(node.value, "id", None), values, (path, node.lineno))
+                if isinstance(node, ast.Attribute):
+                    self.assertNotIn(getattr(node.value, "id", None), values, (path, node.lineno))
 
     def test_imports_name_the_file_that_defines_the_name(self):
         for path, tree in self.trees.items():
